@@ -1,0 +1,1 @@
+"""Patchweave: changes by several hands that name what they lean on."""
