@@ -72,3 +72,8 @@ def check_marks(name, leans, deeds):
         mark = deed[1]
         if mark is not None and mark[0] != name and mark[0] not in leans:
             raise NotLeaned(f"{name} does not lean on {mark[0]!r}")
+
+
+def adds(change):
+    """The deeds that add a line, in order: the first one brings the change's line 0."""
+    return [deed for deed in change[2] if deed[0] == "add"]
